@@ -633,6 +633,24 @@ func TestP10MsgSameSeesEveryDifference(t *testing.T) {
 	}
 }
 
+// checkNewFields changes one result of the function and looks for the change elsewhere.
+func checkNewFields(t *testing.T, name string, list func(m impl.Msg) []impl.Field) {
+	t.Helper()
+	m := authMsg()
+	one, two := list(m), list(m)
+	before := slices.Clone(two)
+	for i := range one {
+		one[i] = impl.Field{No: 77, Text: "changed"}
+	}
+	_ = append(one, impl.Field{No: 77})
+	if !slices.Equal(two, before) || !slices.Equal(list(m), before) {
+		t.Error("two results share memory:", name)
+	}
+	if !sameMsg(m, authMsg()) {
+		t.Error("a result shares memory with its argument:", name)
+	}
+}
+
 func TestP10MessagesAreNewMemory(t *testing.T) {
 	b, _ := impl.Encode(authMsg())
 	for name, list := range map[string]func(m impl.Msg) []impl.Field{
@@ -642,19 +660,7 @@ func TestP10MessagesAreNewMemory(t *testing.T) {
 		"WithoutField":        func(m impl.Msg) []impl.Field { return impl.WithoutField(m, 3).List },
 		"WithoutField, none":  func(m impl.Msg) []impl.Field { return impl.WithoutField(m, 5).List },
 	} {
-		m := authMsg()
-		one, two := list(m), list(m)
-		before := slices.Clone(two)
-		for i := range one {
-			one[i] = impl.Field{No: 77, Text: "changed"}
-		}
-		_ = append(one, impl.Field{No: 77})
-		if !slices.Equal(two, before) || !slices.Equal(list(m), before) {
-			t.Error("two results share memory:", name)
-		}
-		if !sameMsg(m, authMsg()) {
-			t.Error("a result shares memory with its argument:", name)
-		}
+		checkNewFields(t, name, list)
 	}
 	one, _ := impl.Encode(authMsg())
 	two, _ := impl.Encode(authMsg())
@@ -678,12 +684,17 @@ func TestP10ParsedMessagesOutliveTheBytes(t *testing.T) {
 	}
 }
 
+// withFieldsBehind returns the message with a list that has spare capacity, and the list with what stands in there.
+func withFieldsBehind(m impl.Msg) (impl.Msg, []impl.Field) {
+	behind := impl.Field{No: 77, Text: "behind"}
+	whole := append(slices.Clone(m.List), behind, behind, behind)
+	return impl.Msg{Mti: m.Mti, List: whole[:len(m.List)]}, whole
+}
+
 func TestP10MessageFunctionsLeaveTheirArguments(t *testing.T) {
 	for _, m := range append(oddMsgs(), goodMsgs()...) {
-		behind := impl.Field{No: 77, Text: "behind"}
-		whole := append(slices.Clone(m.List), behind, behind, behind)
+		m, whole := withFieldsBehind(m)
 		before := slices.Clone(whole)
-		m.List = whole[:len(whole)-3]
 		impl.MsgOk(m)
 		b, _ := impl.Encode(m)
 		impl.MsgSame(m, m)
