@@ -857,7 +857,7 @@ func checkBooks(t *testing.T, a impl.Acct, l ledger, now int) {
 	}
 }
 
-// tryAll executes every sequence of entries of the given length, with the time advancing in between or not.
+// tryAll executes every sequence of that many entries, with the time advancing in between or not, up to its first refusal, which changes nothing.
 func tryAll(t *testing.T, a impl.Acct, l ledger, now, depth int) {
 	checkBooks(t, a, l, now)
 	if depth == 0 {
