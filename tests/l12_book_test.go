@@ -541,7 +541,7 @@ func TestP10DealWithEveryRequestAndTime(t *testing.T) {
 		for i, change := range reqChanges() {
 			q := reqWith(o)
 			change(&q)
-			if i%3 == 0 || reqOkByHand(q) {
+			if i%9 == 0 || reqOkByHand(q) {
 				checkDeal(t, b, q, 5)
 			}
 		}
